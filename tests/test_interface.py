@@ -1,0 +1,100 @@
+"""How calls and answers lie in their lists, and that nothing is kept or changed."""
+
+import unittest
+
+from tests.helper import (ask, buy, day, drop, equip, good, has, lot, looks, price, read, start, takes, throw, totals,
+                          write)
+from wholekitchen.kitchen import answers
+
+LEAST = "serves 1\nstep a 1 hob\n"
+EACH = [start(2, 1, 1), equip(1, 1, 1), day(), good("rice"), price(0, 5), buy(0, 10, 3), throw(), has(0), lot(0),
+        totals(0), read(LEAST), write(0), takes(0, 0, 1), drop(0)]
+
+
+def flat(calls):
+    return [number for call in calls for number in call]
+
+
+class Form(unittest.TestCase):
+    def test_numbers_as_they_are_told(self):
+        calls = [0, 2, 1, 1,
+                 3, 4, 8, 114, 105, 99, 101, 0, 0, 0, 0,
+                 4, 0, 250,
+                 5, 0, 40, 7,
+                 5, 0, 40, 10001,
+                 2,
+                 8, 0,
+                 9, 0,
+                 7, 1,
+                 6,
+                 1, 7, 0, 1]
+        self.assertEqual(answers(calls), [1, 0,
+                                          1, 0,
+                                          1, 0,
+                                          1, 40,
+                                          1, -22,
+                                          1, 1,
+                                          4, 1, 0, 40, 7,
+                                          5, 0, 40, 0, 0, 250,
+                                          1, -2,
+                                          1, 0,
+                                          1, -22])
+
+    def test_recipes_as_they_are_told(self):
+        text = list(LEAST.encode())
+        padded = text + [0] * (400 - len(text))
+        calls = [0, 2, 1, 1, 10, len(text), 400] + padded + [11, 0, 13, 0, 0, 1, 12, 0, 12, 0, 11, 0]
+        self.assertEqual(answers(calls), [1, 0, 1, 0, 401, len(text)] + padded + [1, -2, 1, 0, 1, -2, 1, -2])
+
+    def test_how_many_numbers(self):
+        self.assertEqual([len(part) for part in ask(*EACH)], [1, 1, 1, 1, 1, 1, 1, 1, 4, 5, 1, 401, 1, 1])
+
+    def test_refusal_is_alone(self):
+        for part in ask(start(), *looks()):
+            if part[0] < 0:
+                self.assertEqual(len(part), 1)
+
+    def test_whole_numbers_alone(self):
+        given = answers(flat(EACH))
+        self.assertIs(type(given), list)
+        for number in given:
+            self.assertIs(type(number), int)
+
+    def test_longest_list(self):
+        reads = [read(LEAST)] * 8 + [read(LEAST)] * 60
+        few = [start()] + reads + [day()] * 931
+        self.assertEqual(len(few), 1000)
+        self.assertLessEqual(len(flat(few)), 30000)
+        self.assertEqual([part[0] for part in ask(*few)],
+                         [0] + list(range(8)) + [-28] * 60 + list(range(1, 932)))
+
+
+class NothingKept(unittest.TestCase):
+    def test_calls_stay_as_they_were(self):
+        calls = flat(EACH)
+        copy = list(calls)
+        answers(calls)
+        self.assertEqual(calls, copy)
+
+    def test_one_list_behind_another(self):
+        calls = flat(EACH[:-1])
+        first = answers(calls)
+        answers(flat([start(6, 4, 6), good("oil"), good("rice"), day(), buy(1, 3, 1), day(), throw(), read(LEAST)]))
+        self.assertEqual(answers(calls), first)
+        seen = ask(start(), *looks())
+        self.assertEqual(seen, [[0]] + [[-2]] * (len(seen) - 1))
+
+    def test_refused_start_keeps_nothing(self):
+        answers(flat(EACH[:-1]))
+        self.assertEqual(answers([0, 7, 0, 1]), [1, -22])
+
+    def test_given_list_may_be_changed(self):
+        calls = flat(EACH)
+        first = answers(calls)
+        copy = list(first)
+        first.clear()
+        self.assertEqual(answers(calls), copy)
+
+
+if __name__ == "__main__":
+    unittest.main()

@@ -1,0 +1,1 @@
+"""A kitchen, whole: its goods, the lots they lie in, and its recipes."""
