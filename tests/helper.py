@@ -66,6 +66,62 @@ def takes(recipe, which, people):
     return [13, recipe, which, people]
 
 
+def plan(to, recipe=0, n=1, slot=288):
+    return [14, to, recipe, n, slot]
+
+
+def move(which, to, slot):
+    return [15, which, to, slot]
+
+
+def people(which, n):
+    return [16, which, n]
+
+
+def unplan(which):
+    return [17, which]
+
+
+def meal(which):
+    return [18, which]
+
+
+def lacks(which, to):
+    return [19, which, to]
+
+
+def listed(to):
+    return [20, to]
+
+
+def cost(to):
+    return [21, to]
+
+
+def cook(which):
+    return [22, which]
+
+
+def when(which, step):
+    return [23, which, step]
+
+
+def busy(which, slot):
+    return [24, which, slot]
+
+
+def back():
+    return [25]
+
+
+def again():
+    return [26]
+
+
+def state():
+    return [27]
+
+
 def split(given):
     """One list for each call of what was answered to it."""
     parts = []
@@ -106,12 +162,25 @@ def text_in(answer):
     return bytes(out[:count]).decode("ascii")
 
 
-def looks(goods=16, lots=32, recipes=8):
-    """Calls that ask all that can be seen of a kitchen, and change nothing."""
+def looks(goods=16, lots=32, recipes=8, meals=12):
+    """Questions about all that can be in a kitchen; an empty one answers -2 to each."""
     calls = [lot(k) for k in range(lots + 1)]
     for which in range(goods + 1):
         calls += [has(which), totals(which)]
     for place in range(recipes + 1):
         calls += [write(place)]
         calls += [takes(place, which, 99) for which in range(goods + 1)]
+    for place in range(meals + 1):
+        calls += [meal(place)]
+        calls += [when(place, step) for step in range(9)]
+    return calls
+
+
+def views(today, days=6):
+    """Questions about all that can be seen of a kitchen, but how many changes there are."""
+    calls = looks(goods=4)
+    for to in [today, today + 1, today + days, 10000]:
+        calls += [listed(to), cost(to), lacks(0, to), lacks(3, to)]
+    for which in range(today + days):
+        calls += [busy(which, slot) for slot in range(0, 288, 41)]
     return calls

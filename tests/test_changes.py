@@ -3,10 +3,13 @@
 import unittest
 
 from tests.helper import row
+from wholekitchen.clock import kt_busy, kt_when
+from wholekitchen.cooking import kt_cook
 from wholekitchen.goods import kt_buy, kt_good, kt_has, kt_lot, kt_price, kt_throw, kt_totals
+from wholekitchen.lacking import kt_cost, kt_lacks, kt_list
+from wholekitchen.meals import kt_meal, kt_move, kt_people, kt_plan, kt_unplan
 from wholekitchen.recipes import kt_drop, kt_read, kt_takes, kt_write
 from wholekitchen.setting import kt_day, kt_equip, kt_start
-from wholekitchen.state import Meal
 
 TEXT = "serves 2\ntake 3 rice\nstep a 1 hob\nstep b 2 oven after a\n"
 
@@ -28,9 +31,13 @@ def some_kitchen():
     state = kt_good(state, 3, row("oil", 8))[0]
     state = kt_buy(state, 0, 10, 0)[0]
     state = kt_buy(state, 1, 20, 5)[0]
+    state = kt_buy(state, 0, 6, 5)[0]
+    state = kt_buy(state, 0, 8, 6)[0]
     state = kt_read(state, len(TEXT), row(TEXT, 400))[0]
     state = kt_read(state, len(TEXT), row(TEXT, 400))[0]
-    state.meals[3] = Meal(4, 1, 2, 100, 0)
+    state = kt_plan(state, 4, 1, 2, 100)[0]
+    state = kt_plan(state, 1, 1, 5, 90)[0]
+    state = kt_plan(state, 1, 1, 50, 90)[0]
     return kt_day(state)[0]
 
 
@@ -46,6 +53,13 @@ class Changes(unittest.TestCase):
         "throw": kt_throw,
         "read": lambda state: kt_read(state, len(TEXT), row(TEXT, 400)),
         "drop": lambda state: kt_drop(state, 0),
+        "plan": lambda state: kt_plan(state, 7, 1, 3, 200),
+        "move": lambda state: kt_move(state, 0, 4, 7),
+        "move, all stays": lambda state: kt_move(state, 1, 1, 90),
+        "people": lambda state: kt_people(state, 0, 9),
+        "people, all stays": lambda state: kt_people(state, 1, 5),
+        "cook": lambda state: kt_cook(state, 1),
+        "unplan": lambda state: kt_unplan(state, 0),
     }
 
     OTHERS = {
@@ -62,6 +76,18 @@ class Changes(unittest.TestCase):
         "read, refused": lambda state: kt_read(state, 1, row(TEXT, 400)),
         "drop, refused": lambda state: kt_drop(state, 2),
         "drop, planned": lambda state: kt_drop(state, 1),
+        "meal": lambda state: kt_meal(state, 0),
+        "lacks": lambda state: kt_lacks(state, 0, 9),
+        "list": lambda state: kt_list(state, 9),
+        "cost": lambda state: kt_cost(state, 9),
+        "when": lambda state: kt_when(state, 0, 0),
+        "busy": lambda state: kt_busy(state, 4, 99),
+        "plan, refused": lambda state: kt_plan(state, 0, 1, 3, 200),
+        "move, refused": lambda state: kt_move(state, 0, 0, 7),
+        "people, refused": lambda state: kt_people(state, 0, 100),
+        "unplan, refused": lambda state: kt_unplan(state, 3),
+        "cook, another day": lambda state: kt_cook(state, 0),
+        "cook, not enough": lambda state: kt_cook(state, 2),
     }
 
     def test_changes(self):
@@ -88,8 +114,10 @@ class Changes(unittest.TestCase):
         states = [some_kitchen()]
         seen = [plain(states[0])]
         for call in self.CHANGES.values():
-            states.append(call(states[-1])[0])
-            seen.append(plain(states[-1]))
+            new = call(states[-1])[0]
+            if new is not None:
+                states.append(new)
+                seen.append(plain(new))
         self.assertEqual([plain(state) for state in states], seen)
 
 

@@ -86,6 +86,15 @@ class Files(unittest.TestCase):
                 self.assertIn(alias.name, defined, name)
                 self.assertIsNone(alias.asname, name)
 
+    def test_no_two_files_draw_from_one_another(self):
+        drawn = {}
+        for name, tree in trees():
+            drawn[name[:-3]] = {part.module.split(".")[1] for part in tree.body if isinstance(part, ast.ImportFrom)}
+        while drawn:
+            ends = [name for name, others in drawn.items() if not others & set(drawn)]
+            self.assertTrue(ends, f"in a circle: {sorted(drawn)}")
+            drawn = {name: others for name, others in drawn.items() if name not in ends}
+
     def test_what_is_imported_is_used(self):
         for name, tree in trees():
             used = {node.id for node in ast.walk(tree) if isinstance(node, ast.Name)}

@@ -1,1 +1,1 @@
-"""A kitchen, whole: its goods, the lots they lie in, and its recipes."""
+"""A kitchen, whole: goods in lots, recipes, meals, what lacks for them, and a clock for each day."""

@@ -3,7 +3,7 @@
 from wholekitchen.outcomes import changed, refused, told
 from wholekitchen.refusals import ALREADY_SO, NO_ROOM, NOT_THERE, OUT_OF_RANGE, TOO_MUCH
 from wholekitchen.signs import LONGEST_NAME, is_name, text_of
-from wholekitchen.state import LAST_DAY, Good, Lot, copy_of, names_of_goods
+from wholekitchen.state import Good, Lot, copy_of, is_to_come, names_of_goods
 
 MOST_GOODS = 16
 MOST_CENTS = 100000
@@ -25,6 +25,23 @@ def lots_with(lots, lot):
     ahead = [other for other in lots if other.last <= lot.last]
     behind = [other for other in lots if other.last > lot.last]
     return ahead + [lot] + behind
+
+
+def lots_without(lots, good, units, day):
+    """The lots when so many units of a good are taken on a day, and how many units are not found.
+
+    They are taken from the first lots on that may be used that day; lots in which nothing is left are gone.
+    """
+    left = []
+    for lot in lots:
+        if lot.good != good or day > lot.last:
+            left.append(lot)
+            continue
+        share = min(units, lot.units)
+        units -= share
+        if share < lot.units:
+            left.append(Lot(good, lot.units - share, lot.last))
+    return (left, units)
 
 
 def kt_good(state, n, name):
@@ -55,7 +72,7 @@ def kt_price(state, good, cents):
 def kt_buy(state, good, units, last):
     if not has_good(state, good):
         return refused(NOT_THERE)
-    if units < 1 or units > MOST_UNITS or last < state.today or last > LAST_DAY:
+    if units < 1 or units > MOST_UNITS or not is_to_come(state, last):
         return refused(OUT_OF_RANGE)
     if len(state.lots) == MOST_LOTS:
         return refused(NO_ROOM)

@@ -1,9 +1,8 @@
 """Recipes as texts: read, and written."""
 
 from wholekitchen.signs import is_name, number_of
-from wholekitchen.state import MOST_PEOPLE, Recipe, Step
+from wholekitchen.state import COOKING_PLACES, MOST_PEOPLE, Recipe, Step
 
-PLACES = ("hob", "oven", "hand")
 MOST_TAKES = 8
 MOST_STEPS = 8
 MOST_TAKEN = 9999
@@ -49,7 +48,7 @@ def read_step(recipe, words):
         return False
     steps = [step.name for step in recipe.steps]
     slots = number_of(words[2], MOST_SLOTS)
-    if not is_name(words[1]) or words[1] in steps or slots == 0 or words[3] not in PLACES:
+    if not is_name(words[1]) or words[1] in steps or slots == 0 or words[3] not in COOKING_PLACES:
         return False
     if not is_after(words[4:], steps):
         return False

@@ -4,7 +4,7 @@ from wholekitchen.outcomes import changed, refused, told
 from wholekitchen.recipe_text import read_recipe, written
 from wholekitchen.refusals import IN_USE, NO_RECIPE, NO_ROOM, NOT_THERE, OUT_OF_RANGE
 from wholekitchen.signs import bytes_of, text_of
-from wholekitchen.state import MOST_PEOPLE, copy_of, names_of_goods
+from wholekitchen.state import copy_of, is_for_people, names_of_goods
 
 LONGEST_TEXT = 400
 
@@ -57,6 +57,6 @@ def kt_drop(state, recipe):
 def kt_takes(state, recipe, good, people):
     if not has_recipe(state, recipe) or good >= len(state.goods):
         return refused(NOT_THERE)
-    if people < 1 or people > MOST_PEOPLE:
+    if not is_for_people(people):
         return refused(OUT_OF_RANGE)
     return told([taken(state.recipes[recipe], good, people)])

@@ -7,9 +7,13 @@ goods are counted on, and so each copy of a state has its own.
 """
 
 LAST_DAY = 10000
+SLOTS_OF_A_DAY = 288
 MOST_PEOPLE = 99
 RECIPE_PLACES = 8
 MEAL_PLACES = 12
+
+# What a step is done at, in the order in which they are told everywhere.
+COOKING_PLACES = ("hob", "oven", "hand")
 
 
 class Good:
@@ -93,3 +97,12 @@ def copy_of(state):
 
 def names_of_goods(state):
     return [good.name for good in state.goods]
+
+
+def is_to_come(state, day):
+    """Whether it is today or a later day."""
+    return state.today <= day <= LAST_DAY
+
+
+def is_for_people(people):
+    return 1 <= people <= MOST_PEOPLE
